@@ -1,0 +1,1 @@
+"""Social choice functions for a few agents and alternatives."""

@@ -1,0 +1,21 @@
+"""Preferences: rankings of all alternatives, the best one first."""
+
+
+def is_ranking(row, alternative_count):
+    return sorted(row) == list(range(alternative_count))
+
+
+def all_rankings(alternative_count):
+    rankings = [[]]
+    while len(rankings[0]) < alternative_count:
+        longer = []
+        for beginning in rankings:
+            for alternative in range(alternative_count):
+                if alternative not in beginning:
+                    longer.append(beginning + [alternative])
+        rankings = longer
+    return rankings
+
+
+def prefers(ranking, one, other):
+    return ranking.index(one) < ranking.index(other)
