@@ -10,6 +10,7 @@ NO_AGENT = -2
 INVALID = -22
 KNOWN_PREFERENCE = -17
 LIMIT_REACHED = -28
+NO_MANIPULATION = -33
 
 LARGEST = 4294967295
 
@@ -54,6 +55,42 @@ def outcome(profile):
     return [9, len(profile)] + list(profile)
 
 
+def option_set(agent, profile):
+    return [10, agent, len(profile)] + list(profile)
+
+
+def find_manipulation():
+    return [11]
+
+
+def count_manipulations(agent):
+    return [12, agent]
+
+
+def outcome_range():
+    return [13]
+
+
+def dictators():
+    return [14]
+
+
+def monotonicity_violation():
+    return [15]
+
+
+def inefficient_profile():
+    return [16]
+
+
+def is_single_peaked(agent):
+    return [17, agent]
+
+
+def describe():
+    return [18]
+
+
 def flat(calls):
     return [number for call in calls for number in call]
 
@@ -86,6 +123,10 @@ def tell(calls):
     return [answer[0] for answer in found]
 
 
+def last_answer(calls):
+    return ask(calls)[-1]
+
+
 def build(agent_count, alternative_count, domains):
     """The calls that create an instance with these domains."""
     calls = [create(agent_count, alternative_count)]
@@ -100,6 +141,23 @@ def rankings(alternative_count):
 
 def profiles(sizes):
     return [list(profile) for profile in itertools.product(*[range(size) for size in sizes])]
+
+
+def full_domains(agent_count, alternative_count):
+    """The calls that create an instance in which every agent has the full domain."""
+    calls = [create(agent_count, alternative_count)]
+    return calls + [set_full_domain(agent) for agent in range(agent_count)]
+
+
+def with_outcomes(domains, selected):
+    """The calls that create an instance with these domains and the outcome of each profile, in order."""
+    calls = build(len(domains), len(domains[0][0]), domains)
+    return calls + changes_to(profiles([len(domain) for domain in domains]), selected)
+
+
+def changes_to(asked, selected):
+    """The calls that set these outcomes where all are 0."""
+    return [set_outcome(alternative, profile) for profile, alternative in zip(asked, selected) if alternative != 0]
 
 
 def outcomes_of(calls, sizes):

@@ -3,15 +3,21 @@
 import unittest
 
 from tests.calling import (
-    INVALID, KNOWN_PREFERENCE, LARGEST, LIMIT_REACHED, NO_AGENT, NO_INSTANCE, NOT_READY, add_preference, build,
-    create, outcome, profiles, rankings, set_full_domain, set_outcome, tell, use_borda, use_dictatorship,
-    use_generalized_median, use_plurality, use_sequential_majority,
+    INVALID, KNOWN_PREFERENCE, LARGEST, LIMIT_REACHED, NO_AGENT, NO_INSTANCE, NO_MANIPULATION, NOT_READY,
+    add_preference, ask, build, count_manipulations, create, describe, dictators, find_manipulation,
+    inefficient_profile, is_single_peaked, monotonicity_violation, option_set, outcome, outcome_range, profiles,
+    rankings, set_full_domain, set_outcome, tell, use_borda, use_dictatorship, use_generalized_median, use_plurality,
+    use_sequential_majority, with_outcomes,
 )
 
 DOMAINS_OF_THREE = [[[2, 0, 1], [0, 1, 2], [1, 2, 0]], [[2, 1, 0], [1, 0, 2]]]
 SET_APART = [set_outcome(1, [0, 0]), set_outcome(0, [2, 1])]
 
 READY = build(2, 3, DOMAINS_OF_THREE) + [use_borda()] + SET_APART
+STRATEGY_PROOF = build(2, 3, DOMAINS_OF_THREE) + [use_dictatorship(1)]
+ALL_EQUAL = with_outcomes(DOMAINS_OF_THREE, [2] * 6)
+ONE_AGENT = with_outcomes([[[3, 0, 1, 2], [2, 1, 0, 3]]], [1, 3])
+THREE_AGENTS = with_outcomes([[[0, 1], [1, 0]]] * 3, [0, 1, 1, 0, 1, 0, 0, 0])
 NOT_YET_READY = [create(2, 3)] + [add_preference(1, ranking) for ranking in DOMAINS_OF_THREE[1]]
 FOUR = build(2, 4, [rankings(4)[5:17:2], rankings(4)[7:9]]) + [use_plurality(), set_outcome(3, [2, 1])]
 
@@ -68,12 +74,28 @@ AT_READY = (
     (outcome([3, 0]), INVALID),
     (outcome([LARGEST, 0]), INVALID),
     (outcome([0] * 8), INVALID),
+    (option_set(2, [0, 0]), NO_AGENT),
+    (option_set(LARGEST, [0, 0]), NO_AGENT),
+    (option_set(0, []), INVALID),
+    (option_set(0, [0]), INVALID),
+    (option_set(0, [0, 0, 0]), INVALID),
+    (option_set(0, [3, 0]), INVALID),
+    (option_set(1, [0, 2]), INVALID),
+    (option_set(1, [0, LARGEST]), INVALID),
+    (option_set(1, [0] * 8), INVALID),
+    (count_manipulations(2), NO_AGENT),
+    (count_manipulations(LARGEST), NO_AGENT),
+    (is_single_peaked(2), NO_AGENT),
+    (is_single_peaked(LARGEST), NO_AGENT),
     # Two errors at once: the one that is checked first is told.
     (add_preference(2, [0, 1]), NO_AGENT),
     (add_preference(2, [LARGEST] * 8), NO_AGENT),
     (add_preference(2, [1, 2, 0]), NO_AGENT),
     (set_outcome(3, [3, 0]), INVALID),
     (use_generalized_median([LARGEST, LARGEST]), INVALID),
+    (option_set(2, [3, 0]), NO_AGENT),
+    (option_set(2, []), NO_AGENT),
+    (option_set(LARGEST, [LARGEST] * 8), NO_AGENT),
 )
 
 AT_FOUR = (
@@ -108,13 +130,20 @@ AT_NOT_YET_READY = (
     (use_sequential_majority([0] * 8), NOT_READY),
     (outcome([0, 0]), NOT_READY),
     (outcome([LARGEST]), NOT_READY),
-    ([10, 2, 0], NOT_READY),
-    ([11], NOT_READY),
-    ([12, 2], NOT_READY),
-    ([13], NOT_READY),
-    ([14], NOT_READY),
-    ([15], NOT_READY),
-    ([16], NOT_READY),
+    (option_set(1, [0, 0]), NOT_READY),
+    (option_set(1, []), NOT_READY),
+    (option_set(2, [0, 0]), NOT_READY),
+    (option_set(LARGEST, [LARGEST] * 8), NOT_READY),
+    (find_manipulation(), NOT_READY),
+    (count_manipulations(1), NOT_READY),
+    (count_manipulations(2), NOT_READY),
+    (count_manipulations(LARGEST), NOT_READY),
+    (outcome_range(), NOT_READY),
+    (dictators(), NOT_READY),
+    (monotonicity_violation(), NOT_READY),
+    (inefficient_profile(), NOT_READY),
+    (is_single_peaked(2), NO_AGENT),
+    (is_single_peaked(LARGEST), NO_AGENT),
     (create(0, 3), INVALID),
     (add_preference(2, [0, 1, 2]), NO_AGENT),
     (add_preference(0, [0, 1]), INVALID),
@@ -140,25 +169,34 @@ WITHOUT_INSTANCE = (
     use_sequential_majority([]),
     outcome([0]),
     outcome([LARGEST] * 8),
-    # The numbers 10 to 18.
-    [10, 0, 1, 0],
-    [10, LARGEST, 0],
-    [10, 0, 8] + [9] * 8,
-    [11],
-    [12, 0],
-    [13],
-    [14],
-    [15],
-    [16],
-    [17, LARGEST],
-    [18],
+    option_set(0, [0]),
+    option_set(LARGEST, []),
+    option_set(0, [9] * 8),
+    find_manipulation(),
+    count_manipulations(0),
+    count_manipulations(LARGEST),
+    outcome_range(),
+    dictators(),
+    monotonicity_violation(),
+    inefficient_profile(),
+    is_single_peaked(0),
+    is_single_peaked(LARGEST),
+    describe(),
 )
+
+# The numbers from 9 on, with what is good somewhere and what is good nowhere.
+THAT_ONLY_TELL = [find_manipulation(), outcome_range(), dictators(), monotonicity_violation(), inefficient_profile()]
+THAT_ONLY_TELL += [describe()]
+for agent in (0, 1, 2, LARGEST):
+    THAT_ONLY_TELL += [count_manipulations(agent), is_single_peaked(agent)]
+    THAT_ONLY_TELL += [option_set(agent, row) for row in ([], [0], [1, 0], [1, 1, 1], [LARGEST, 0], [0] * 8)]
+THAT_ONLY_TELL += [outcome(row) for row in ([], [1], [0, 1], [1, 0, 0], [LARGEST, 0], [0] * 8)]
 
 
 def probe(alternative_count, sizes):
     """Calls that show the whole state: the outcomes, the comparisons of each agent, and the domains."""
     shown = profiles(sizes)
-    calls = [outcome(profile) for profile in shown]
+    calls = [describe()] + [outcome(profile) for profile in shown]
     calls += [outcome([size for size in sizes])]
     for agent in range(len(sizes)):
         calls += [use_dictatorship(agent)] + [outcome(profile) for profile in shown]
@@ -175,12 +213,12 @@ def probe(alternative_count, sizes):
 class Refusals(unittest.TestCase):
     def check(self, calls, rows, asked):
         """Each refusal is the code alone, and what is asked behind it is answered as without it."""
-        expected = tell(calls + asked)
+        expected = ask(calls + asked)
         self.assertLessEqual(len(calls + asked), 399)
         for call, code in rows:
             with self.subTest(call=call):
-                found = tell(calls + [call] + asked)
-                self.assertEqual(found[len(calls)], code)
+                found = ask(calls + [call] + asked)
+                self.assertEqual(found[len(calls)], [code])
                 self.assertEqual(found[:len(calls)] + found[len(calls) + 1:], expected)
 
     def test_of_a_ready_instance(self):
@@ -188,6 +226,10 @@ class Refusals(unittest.TestCase):
 
     def test_of_an_instance_with_four_alternatives_and_six_preferences(self):
         self.check(FOUR, AT_FOUR, probe(4, (6, 2)))
+
+    def test_of_a_strategy_proof_instance(self):
+        for calls in (STRATEGY_PROOF, ALL_EQUAL):
+            self.check(calls, [(find_manipulation(), NO_MANIPULATION)], probe(3, (3, 2)))
 
     def test_of_an_instance_that_is_not_ready(self):
         asked = [outcome([0, 0])] + [add_preference(0, ranking) for ranking in DOMAINS_OF_THREE[0]]
@@ -197,9 +239,9 @@ class Refusals(unittest.TestCase):
         for calls, rows, asked in (
                 (READY, AT_READY, probe(3, (3, 2))), (FOUR, AT_FOUR, probe(4, (6, 2)))):
             refused = [call for call, code in rows]
-            found = tell(calls + refused + asked)
-            self.assertEqual(found[len(calls):len(calls + refused)], [code for call, code in rows])
-            self.assertEqual(found[len(calls + refused):], tell(calls + asked)[len(calls):])
+            found = ask(calls + refused + asked)
+            self.assertEqual(found[len(calls):len(calls + refused)], [[code] for call, code in rows])
+            self.assertEqual(found[len(calls + refused):], ask(calls + asked)[len(calls):])
 
     def test_the_probe_sees_each_change(self):
         changes = [
@@ -209,17 +251,49 @@ class Refusals(unittest.TestCase):
             use_sequential_majority([0, 1, 2]),
         ]
         asked = probe(3, (3, 2))
-        expected = tell(READY + asked)[len(READY):]
+        expected = ask(READY + asked)[len(READY):]
         for change in changes:
             with self.subTest(change=change):
-                self.assertNotEqual(tell(READY + [change] + asked)[len(READY) + 1:], expected)
+                self.assertNotEqual(ask(READY + [change] + asked)[len(READY) + 1:], expected)
 
-    def test_outcome_changes_nothing(self):
-        asked = probe(3, (3, 2))
-        expected = tell(READY + asked)[len(READY):]
-        for profile in profiles((3, 2)):
-            found = tell(READY + [outcome(profile)] + asked)
-            self.assertEqual(found[len(READY) + 1:], expected)
+
+class TheCallsFrom9OnChangeNothing(unittest.TestCase):
+    STATES = (
+        (READY, probe(3, (3, 2))),
+        (STRATEGY_PROOF, probe(3, (3, 2))),
+        (ALL_EQUAL, probe(3, (3, 2))),
+        (FOUR, probe(4, (6, 2))),
+        (ONE_AGENT, probe(4, (2,))),
+        (THREE_AGENTS, probe(2, (2, 2, 2))),
+        (NOT_YET_READY, [outcome([0, 0])] + probe(3, (1, 2))),
+    )
+
+    def test_each_alone(self):
+        for calls, asked in self.STATES:
+            expected = ask(calls + asked)[len(calls):]
+            for call in THAT_ONLY_TELL:
+                with self.subTest(calls=calls, call=call):
+                    self.assertEqual(ask(calls + [call] + asked)[len(calls) + 1:], expected)
+
+    def test_all_one_behind_another(self):
+        for calls, asked in self.STATES:
+            expected = ask(calls + asked)[len(calls):]
+            told = calls + THAT_ONLY_TELL + THAT_ONLY_TELL
+            self.assertEqual(ask(told + asked)[len(told):], expected)
+
+    def test_each_answers_the_same_again(self):
+        for calls, asked in self.STATES:
+            for call in THAT_ONLY_TELL:
+                found = ask(calls + [call, call])
+                self.assertEqual(found[-1], found[-2])
+
+    def test_each_kind_is_answered_and_each_that_can_be_is_refused(self):
+        answered, refused = set(), set()
+        for calls, asked in self.STATES:
+            for call, answer in zip(THAT_ONLY_TELL, ask(calls + THAT_ONLY_TELL)[len(calls):]):
+                (refused if answer[0] < 0 else answered).add(call[0])
+        self.assertEqual(answered, set(range(9, 19)))
+        self.assertEqual(refused, set(range(9, 18)))
 
 
 class NoInstance(unittest.TestCase):

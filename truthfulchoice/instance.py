@@ -1,6 +1,18 @@
 """The state of an instance: the domain of each agent and the outcome of each profile."""
 
 
+# All ways to take one member of each list, in lexicographic order of their places.
+def every_choice(lists):
+    choices = [[]]
+    for members in lists:
+        longer = []
+        for beginning in choices:
+            for member in members:
+                longer.append(beginning + [member])
+        choices = longer
+    return choices
+
+
 # The outcomes stand in the order of the profiles, so the place of a profile tells its outcome.
 class Instance:
     def __init__(self, agent_count, alternative_count):
@@ -25,21 +37,30 @@ class Instance:
 
     def replace_domain(self, agent, domain):
         self.domains[agent] = domain
-        self.outcomes = [0] * len(self.reported_rankings())
+        self.outcomes = [0] * len(self.all_profiles())
+
+    def all_profiles(self):
+        return every_choice([list(range(len(domain))) for domain in self.domains])
 
     # For each profile, in order: the ranking that each agent reports, as the rules ask for it.
     def reported_rankings(self):
-        profiles = [[]]
-        for domain in self.domains:
-            longer = []
-            for beginning in profiles:
-                for ranking in domain:
-                    longer.append(beginning + [ranking])
-            profiles = longer
-        return profiles
+        return every_choice(self.domains)
 
     def place_of(self, profile):
         place = 0
         for report, domain in zip(profile, self.domains):
             place = place * len(domain) + report
         return place
+
+    # How far apart two profiles stand where this agent alone reports the next preference.
+    def step_of(self, agent):
+        step = 1
+        for domain in self.domains[agent + 1:]:
+            step *= len(domain)
+        return step
+
+    # For each preference of the agent, in order: the outcome if the agent reports it and nobody else moves.
+    def options(self, agent, profile):
+        step = self.step_of(agent)
+        start = self.place_of(profile) - profile[agent] * step
+        return self.outcomes[start:start + len(self.domains[agent]) * step:step]

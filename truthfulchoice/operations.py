@@ -1,7 +1,9 @@
 """The operations on an instance: each gives back its answer as a list of numbers."""
 
-from truthfulchoice.rankings import all_rankings, is_ranking
-from truthfulchoice.refusals import INVALID, KNOWN_PREFERENCE, LIMIT_REACHED, NO_AGENT, NOT_READY
+from truthfulchoice.analysis import first_inefficiency, first_manipulation, first_monotonicity_violation
+from truthfulchoice.analysis import is_dictator, manipulation_count, mask_of
+from truthfulchoice.rankings import all_rankings, has_single_peak, is_ranking
+from truthfulchoice.refusals import INVALID, KNOWN_PREFERENCE, LIMIT_REACHED, NO_AGENT, NO_MANIPULATION, NOT_READY
 from truthfulchoice.rules import borda, dictatorship, generalized_median, plurality, sequential_majority
 
 DOMAIN_LIMIT = 6
@@ -89,6 +91,67 @@ def outcome(instance, call):
     return [instance.outcomes[instance.place_of(call.row)]]
 
 
+def option_set(instance, call):
+    agent = call.numbers[0]
+    if not instance.has_agent(agent):
+        return [NO_AGENT]
+    if not instance.has_profile(call.row):
+        return [INVALID]
+    return [mask_of(instance.options(agent, call.row))]
+
+
+def find_manipulation(instance, call):
+    found = first_manipulation(instance)
+    if found is None:
+        return [NO_MANIPULATION]
+    return found
+
+
+def count_manipulations(instance, call):
+    agent = call.numbers[0]
+    if not instance.has_agent(agent):
+        return [NO_AGENT]
+    return [manipulation_count(instance, agent), len(instance.outcomes)]
+
+
+# The document calls it range, which is a name of Python's own.
+def outcome_range(instance, call):
+    return [mask_of(instance.outcomes), len(set(instance.outcomes))]
+
+
+def dictators(instance, call):
+    found = [agent for agent in range(instance.agent_count) if is_dictator(instance, agent)]
+    return [len(found)] + found
+
+
+def found_or_not(found):
+    if found is None:
+        return [0]
+    return [1] + found
+
+
+def monotonicity_violation(instance, call):
+    return found_or_not(first_monotonicity_violation(instance))
+
+
+def inefficient_profile(instance, call):
+    return found_or_not(first_inefficiency(instance))
+
+
+def is_single_peaked(instance, call):
+    agent = call.numbers[0]
+    if not instance.has_agent(agent):
+        return [NO_AGENT]
+    domain = instance.domains[agent]
+    if all([has_single_peak(ranking) for ranking in domain]):
+        return [1, len(domain)]
+    return [0, len(domain)]
+
+
+def describe(instance, call):
+    return [instance.agent_count, instance.alternative_count] + [len(domain) for domain in instance.domains]
+
+
 OPERATIONS = {
     1: add_preference,
     2: set_full_domain,
@@ -99,6 +162,15 @@ OPERATIONS = {
     7: use_borda,
     8: use_sequential_majority,
     9: outcome,
+    10: option_set,
+    11: find_manipulation,
+    12: count_manipulations,
+    13: outcome_range,
+    14: dictators,
+    15: monotonicity_violation,
+    16: inefficient_profile,
+    17: is_single_peaked,
+    18: describe,
 }
 
 

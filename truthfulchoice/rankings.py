@@ -19,3 +19,12 @@ def all_rankings(alternative_count):
 
 def prefers(ranking, one, other):
     return ranking.index(one) < ranking.index(other)
+
+
+def has_single_peak(ranking):
+    for middle in range(len(ranking)):
+        for low in range(middle):
+            for high in range(middle + 1, len(ranking)):
+                if not prefers(ranking, middle, low) and not prefers(ranking, middle, high):
+                    return False
+    return True
